@@ -1,0 +1,1 @@
+"""Books taken from a shelf and returned to the leftmost gap."""
