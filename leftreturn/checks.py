@@ -1,6 +1,6 @@
 """Checks of arguments that several modules share."""
 
-from leftreturn.errors import InvalidPair, InvalidPattern, InvalidPlaces, InvalidSize
+from leftreturn.errors import InvalidNumber, InvalidPair, InvalidPattern, InvalidPlaces, InvalidSize
 
 MOST_SIZE = 200
 MOST_PLACES = 200
@@ -15,6 +15,17 @@ def is_whole(value):
 def is_listed(value):
     """Return whether any value can stand where a list or a tuple is asked for."""
     return isinstance(value, (list, tuple))
+
+
+def is_number(value, count):
+    """Return whether any value is an integer from 0 to a count minus 1."""
+    return is_whole(value) and 0 <= value < count
+
+
+def check_number(value, count):
+    """Raise InvalidNumber unless a value is the number of one of so many things."""
+    if not is_number(value, count):
+        raise InvalidNumber("no thing has this number")
 
 
 def check_size(size):
@@ -40,6 +51,13 @@ def check_places(value):
     """Raise InvalidPlaces unless a value is a place list."""
     if not is_place_list(value):
         raise InvalidPlaces("a place list has at most 200 different integers from 0 to 10 ** 30")
+
+
+def check_full_places(value):
+    """Raise InvalidPlaces unless a value is a full list of at least one place."""
+    check_places(value)
+    if len(value) == 0 or max(value) != len(value) - 1:
+        raise InvalidPlaces("a full list has each place from 0 up to its size minus 1")
 
 
 def check_same_places(first, second):

@@ -138,11 +138,16 @@ def most_times(takes, fills):
     return times
 
 
-def time_bounds(takes, fills):
-    """Return a list with the least and the greatest time of each fill of a possible pair."""
+def check_possible(takes, fills):
+    """Raise InvalidPlaces, InvalidPair or Obstructed unless two values are a possible pair."""
     reason = obstruction(takes, fills)
     if reason is not None:
         raise Obstructed(reason)
+
+
+def time_bounds(takes, fills):
+    """Return a list with the least and the greatest time of each fill of a possible pair."""
+    check_possible(takes, fills)
     return list(zip(least_times(takes, fills), most_times(takes, fills)))
 
 

@@ -4,6 +4,7 @@ Nothing here uses the package, so that the tests compare two independent answers
 """
 
 from itertools import combinations, permutations
+from math import comb
 
 
 def nested(depth):
@@ -28,6 +29,25 @@ def any_items():
     return any_values() + [[], (), [[]], nested(18), [None], (None, None), ["take"], ("take", None)]
 
 
+def wrong_places():
+    """Return values that are not place lists."""
+    return any_values() + [
+        "", 0, [-1], [10 ** 30 + 1], [0, 10 ** 30 + 1], [10 ** 39], [0, 0], [10 ** 30, 1, 10 ** 30],
+        [True], [False], [0, True], [1, False], [None], ["0"], [0, "1"], [b"0"], [[0]], [(0,)], [{}], [{0}],
+        [0, [1]], nested(19), list(range(201)), tuple(range(201)), [0] * 201, {0: 1}, {0, 1},
+    ]
+
+
+def wrong_patterns():
+    """Return values that are not patterns."""
+    return any_items() + [
+        0, "T", "R", "TT", "RT", "TRR", "TTR", "TRRT", "tr", "T R", " TR", "TR ", "TRX", "XTR", "TR\n",
+        "TX", "T ", "Tr", "tR", "TTXR", "TTR ", "TTRTRTRr", "TTRTRTR0", "TTtRTRRR",
+        ["T", "R"], ("TR",), "TR" * 201, "T" * 201 + "R" * 201, "T" * 201 + "R" * 200, "T" * 200 + "R" * 201,
+        b"TTRTRTRR", list("TTRTRTRR"), "01", "()",
+    ]
+
+
 def all_patterns(size):
     """Return all patterns with as many letters T as told."""
     found = []
@@ -42,6 +62,11 @@ def all_patterns(size):
 
     extend("", 0, 0)
     return found
+
+
+def count_all_patterns(size):
+    """Return the number of all patterns with as many letters T as told."""
+    return comb(2 * size, size) // (size + 1)
 
 
 def follow(takes, pattern):
@@ -155,3 +180,93 @@ def run_operations(size, operations):
         most = max(most, size - len(shelf))
     out = sorted(set(range(size)) - set(shelf.values()))
     return None, [shelf.get(place) for place in range(size)], out, filled, most
+
+
+def all_facts(count):
+    """Return all facts about a pair of so many places."""
+    found = []
+    for take in range(count):
+        for fill in range(count):
+            found += [("before", take, fill), ("after", take, fill)]
+    for done in range(2 * count + 1):
+        found += [("out", done, out) for out in range(count + 1)]
+    return found
+
+
+def satisfies(pattern, fact):
+    """Return whether a pattern satisfies a fact, letter by letter."""
+    word, first, second = fact
+    if word == "out":
+        return pattern[:first].count("T") - pattern[:first].count("R") == second
+    take = [at for at, letter in enumerate(pattern) if letter == "T"][first]
+    fill = [at for at, letter in enumerate(pattern) if letter == "R"][second]
+    return take < fill if word == "before" else fill < take
+
+
+def kept_by_facts(patterns):
+    """Return a dict from each fact about patterns of one size to the set of those that satisfy it."""
+    count = patterns[0].count("T")
+    return {
+        fact: {pattern for pattern in patterns if satisfies(pattern, fact)}
+        for fact in all_facts(count)
+    }
+
+
+def satisfying(patterns, kept, facts):
+    """Return the list of the patterns that satisfy all facts, by the dict of kept_by_facts."""
+    return [pattern for pattern in patterns if all(pattern in kept[fact] for fact in facts)]
+
+
+def contradiction_by_text(kept, facts):
+    """Return the contradiction of facts, or None, by the dict of kept_by_facts."""
+    for x, fact in enumerate(facts):
+        if not kept[fact]:
+            return (x,)
+    for x, y in combinations(range(len(facts)), 2):
+        if not kept[facts[x]] & kept[facts[y]]:
+            return (x, y)
+    return None
+
+
+def stretch_of(fills, number):
+    """Return the list of the places of the stretch of a fill."""
+    return max(
+        [fills[start:number + 1] for start in range(number + 1)
+         if max(fills[start:number + 1]) == fills[number]], key=len)
+
+
+def offsets_by_text(takes, fills):
+    """Return the list of the offsets of a possible pair."""
+    return [
+        len([other for other in stretch_of(fills, number) if takes.index(other) < takes.index(place)])
+        for number, place in enumerate(fills)
+    ]
+
+
+def park(wishes):
+    """Return the list of the cars spot by spot, or None if one of them finds no spot."""
+    spots = {}
+    for car, wish in enumerate(wishes):
+        free = [spot for spot in range(wish, len(wishes)) if spot not in spots]
+        if not free:
+            return None
+        spots[free[0]] = car
+    return [spots[spot] for spot in range(len(wishes))]
+
+
+def wishes_by_text(takes, fills):
+    """Return the list of the wishes of a possible pair of full lists."""
+    offsets = offsets_by_text(takes, fills)
+    found = []
+    for car in range(len(fills)):
+        number = fills.index(car)
+        found.append(number + 1 - len(stretch_of(fills, number)) + offsets[number])
+    return found
+
+
+def index_by_text(wishes):
+    """Return the index of a parking function by its code."""
+    index = 0
+    for wish in wishes[1:]:
+        index = index * (len(wishes) + 1) + (wish - wishes[0]) % (len(wishes) + 1)
+    return index

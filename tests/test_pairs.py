@@ -1,6 +1,5 @@
 """Tests of leftreturn.pairs: points 6 to 9 and 12 to 15, and points 2, 3 and 10 for this module."""
 
-import copy
 import itertools
 import math
 import random
@@ -10,7 +9,7 @@ from leftreturn import pairs
 from leftreturn.errors import InvalidPair, InvalidPattern, InvalidPlaces, Obstructed
 from leftreturn.pairs import (
     count_results, fills_by, is_possible, is_result, obstruction, obstructs, time_bounds)
-from tests import reference
+from tests import cases, reference
 
 A, F, PATTERN = [2, 0, 3, 1], [0, 2, 1, 3], "TTRTRTRR"
 GREATEST = 10 ** 30
@@ -32,32 +31,7 @@ def with_pattern(takes, pattern, books):
     ]
 
 
-def wrong_places():
-    """Return values that are not place lists."""
-    return reference.any_values() + [
-        "", 0, [-1], [GREATEST + 1], [0, GREATEST + 1], [10 ** 39], [0, 0], [GREATEST, 1, GREATEST],
-        [True], [False], [0, True], [1, False], [None], ["0"], [0, "1"], [b"0"], [[0]], [(0,)], [{}], [{0}],
-        [0, [1]], reference.nested(19), list(range(201)), tuple(range(201)), [0] * 201, {0: 1}, {0, 1},
-    ]
-
-
-def wrong_patterns():
-    """Return values that are not patterns."""
-    return reference.any_items() + [
-        0, "T", "R", "TT", "RT", "TRR", "TTR", "TRRT", "tr", "T R", " TR", "TR ", "TRX", "XTR", "TR\n",
-        "TX", "T ", "Tr", "tR", "TTXR", "TTR ", "TTRTRTRr", "TTRTRTR0", "TTtRTRRR",
-        ["T", "R"], ("TR",), "TR" * 201, "T" * 201 + "R" * 201, "T" * 201 + "R" * 200, "T" * 200 + "R" * 201,
-        b"TTRTRTRR", list("TTRTRTRR"), "01", "()",
-    ]
-
-
-class PairsTest(unittest.TestCase):
-
-    def assert_raises_exactly(self, kind, calls):
-        for call in calls:
-            with self.assertRaises(kind) as caught:
-                call()
-            self.assertIs(type(caught.exception), kind)
+class PairsTest(cases.Case):
 
     def assert_obstructed(self, takes, fills, reason):
         found = obstruction(takes, fills)
@@ -141,7 +115,7 @@ class PairsTest(unittest.TestCase):
         self.assert_raises_exactly(InvalidPair, [lambda: is_result([0], "TR", many)])
 
     def test_invalid_places(self):
-        for value in wrong_places():
+        for value in reference.wrong_places():
             with self.subTest(value=value):
                 # Places are checked before all else, whatever else is wrong.
                 self.assert_raises_exactly(InvalidPlaces, with_places(value, [0, 1]))
@@ -159,7 +133,7 @@ class PairsTest(unittest.TestCase):
                 self.assert_raises_exactly(InvalidPair, with_places(takes, fills))
 
     def test_invalid_patterns(self):
-        for value in wrong_patterns():
+        for value in reference.wrong_patterns():
             with self.subTest(value=value):
                 for takes in [[], [0], [0, 1], [2, 0, 3, 1], list(range(200))]:
                     # The pattern is checked before the books.
@@ -173,14 +147,14 @@ class PairsTest(unittest.TestCase):
                 self.assert_raises_exactly(InvalidPattern, with_pattern(takes, pattern, books))
 
     def test_invalid_books(self):
-        wrong = wrong_places() + [[], [0], [0, 2], [0, 1, 2], [1, 2], [1, GREATEST], (0,)]
+        wrong = reference.wrong_places() + [[], [0], [0, 2], [0, 1, 2], [1, 2], [1, GREATEST], (0,)]
         for books in wrong:
             with self.subTest(books=books):
                 for pattern in ["TTRR", "TRTR"]:
                     self.assert_raises_exactly(InvalidPair, [lambda: is_result([0, 1], pattern, books)])
 
     def test_obstructs_accepts_any_value(self):
-        wrong = wrong_places() + wrong_patterns() + [
+        wrong = reference.wrong_places() + reference.wrong_patterns() + [
             ("two",), ("three",), ("two", 0), ("two", 0, 1, 2), ("three", 0, 1), ("three", 0, 1, 2, 3),
             ("two", 1, 0), ("two", 0, 0), ("two", 0, 9), ("two", -1, 0), ("two", 0, -1), ("two", 0, None),
             ("two", "0", "1"), ("two", [0], [1]), ("two", (0,), 1), ("two", {}, {0}), ("two", 0, 10 ** 39),
@@ -239,14 +213,9 @@ class PairsTest(unittest.TestCase):
         ]
         for arguments in values:
             takes, fills, pattern, books, value = arguments
-            before = copy.deepcopy(arguments)
-            for call in with_places(takes, fills) + with_pattern(takes, pattern, books) + [
-                    lambda: obstructs(takes, fills, value)]:
-                try:
-                    call()
-                except ValueError:
-                    pass
-                self.assertEqual(arguments, before)
+            self.assert_left_alone(
+                arguments, with_places(takes, fills) + with_pattern(takes, pattern, books) + [
+                    lambda: obstructs(takes, fills, value)])
 
     def test_results_are_new(self):
         for function, second, answer in [(fills_by, PATTERN, F), (time_bounds, F, time_bounds(A, F))]:
