@@ -1,6 +1,7 @@
 """Checks of arguments that several modules share."""
 
-from leftreturn.errors import InvalidNumber, InvalidPair, InvalidPattern, InvalidPlaces, InvalidSize
+from leftreturn.errors import InvalidNumber, InvalidOrder, InvalidPair, InvalidPattern
+from leftreturn.errors import InvalidPlaces, InvalidSize
 
 MOST_SIZE = 200
 MOST_PLACES = 200
@@ -53,11 +54,21 @@ def check_places(value):
         raise InvalidPlaces("a place list has at most 200 different integers from 0 to 10 ** 30")
 
 
+def is_full_list(value):
+    """Return whether any value is a full list of at least one place."""
+    return is_place_list(value) and len(value) > 0 and max(value) == len(value) - 1
+
+
 def check_full_places(value):
     """Raise InvalidPlaces unless a value is a full list of at least one place."""
-    check_places(value)
-    if len(value) == 0 or max(value) != len(value) - 1:
+    if not is_full_list(value):
         raise InvalidPlaces("a full list has each place from 0 up to its size minus 1")
+
+
+def check_order(value):
+    """Raise InvalidOrder unless a value is an order of the books."""
+    if not is_full_list(value):
+        raise InvalidOrder("an order has each book from 0 up to its size minus 1 once")
 
 
 def check_same_places(first, second):

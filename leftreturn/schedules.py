@@ -21,6 +21,10 @@ class Shelf:
         """Return whether any value is a book that is out."""
         return is_whole(book) and book in self.out
 
+    def first_gap(self):
+        """Return the leftmost gap of a shelf that has one."""
+        return self.books.index(None)
+
     def take_from(self, place):
         """Take the book at a place that has one, and return the book."""
         book = self.books[place]
@@ -30,10 +34,19 @@ class Shelf:
 
     def put_back(self, book):
         """Put a book that is out into the leftmost gap, and return this place."""
-        place = self.books.index(None)
+        place = self.first_gap()
         self.books[place] = book
         self.out.remove(book)
         return place
+
+    def revert_take(self, place):
+        """Put the book that was taken last back to the place from which it was taken."""
+        self.books[place] = self.out.pop()
+
+    def revert_return(self, place, number):
+        """Make the book at a place the one with a number among the books that are out."""
+        self.out.insert(number, self.books[place])
+        self.books[place] = None
 
 
 def can_perform(shelf, value):
